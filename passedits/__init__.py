@@ -1,0 +1,1 @@
+"""Passedits: tables that turn two edits of a list past each other."""
