@@ -1,12 +1,13 @@
-"""Which forms the values have that callers pass: kinds, edits, cells, rows and texts of tables."""
+"""Which forms the values have that callers pass: kinds, edits, rows and texts of tables, lists, arrivals, wishes."""
 
-from passedits.limits import LEAST_PLACE, MOST_OPTIONS, MOST_PLACE
+from passedits.limits import LEAST_PLACE, MOST_OPTIONS, MOST_PLACE, MOST_SIGNS
 
 KINDS = ("put", "out", "set")
 KINDS_WITH_SIGN = ("put", "set")
 RELATIONS = ("<", "=", ">")
 SIGN_CONDITIONS = ("less", "same", "more")
 RESULTS = ("keep", "up", "down", "stay")
+PROMISES = ("puts", "outs", "kept", "sets")
 
 
 def is_integer(value):
@@ -120,3 +121,36 @@ def is_table_text(value):
         return False
     kinds, rows = kinds_and_rows(value)
     return are_kinds(kinds) and first_wrong_row(rows, kinds) is None
+
+
+def is_list(value):
+    """Whether the value is a list of no more signs than callers pass."""
+    return isinstance(value, str) and len(value) <= MOST_SIGNS and all([is_sign(sign) for sign in value])
+
+
+def is_arrival(value, many):
+    """Whether the value is a tuple with each index of so many edits once."""
+    if not isinstance(value, tuple) or not all([is_integer(index) for index in value]):
+        return False
+    return sorted(value) == list(range(many))
+
+
+def is_many(value):
+    """Whether the value is a number of sites that is asked about."""
+    return is_integer(value) and value in (2, 3)
+
+
+def is_promise(value):
+    """Whether the value is a promise of a table."""
+    return is_word(value, PROMISES)
+
+
+def is_wish(value):
+    """Whether the value is a wish for a table."""
+    if not isinstance(value, tuple) or len(value) == 0:
+        return False
+    if is_word(value[0], ("meets",)):
+        return len(value) == 2 and is_many(value[1])
+    if is_word(value[0], ("keeps",)):
+        return len(value) == 3 and is_promise(value[1]) and is_many(value[2])
+    return is_word(value[0], ("sure",)) and len(value) == 1

@@ -1,7 +1,7 @@
 """Tables: what an edit becomes behind another one."""
 
 from passedits.errors import InvalidChange, InvalidEdit, InvalidFirst, InvalidKinds, InvalidRows, InvalidText
-from passedits.errors import UnknownName
+from passedits.errors import NotATable, UnknownName
 from passedits.forms import RELATIONS, SIGN_CONDITIONS
 from passedits.forms import are_kinds, is_cell, is_edit_of, is_row, is_table_text
 from passedits.forms import cell_of, first_wrong_row, kinds_and_rows, options_of
@@ -85,6 +85,12 @@ class Table:
 
     def __eq__(self, other):
         return isinstance(other, Table) and self._kinds == other._kinds and self._rows == other._rows
+
+
+def ask_for_table(value):
+    """Raises the error for what is no table."""
+    if not isinstance(value, Table):
+        raise NotATable(value)
 
 
 def turned(table, edit, past, first):

@@ -2,15 +2,21 @@
 
 import unittest
 
+from passedits.meeting import keeps, meets, parted, sure
+from passedits.mends import holds, mends
+from passedits.runs import done, ended
 from passedits.tables import Table
 
 
 class Examples(unittest.TestCase):
-    def test_tables(self):
-        plain = Table.read(
+    def plain(self):
+        return Table.read(
             "kinds put out\nput put > up\nput put = first:keep up\nput out > down\nout put > up\nout put = up\n"
             "out out > down\nout out = stay"
         )
+
+    def test_tables(self):
+        plain = self.plain()
         self.assertEqual(
             [plain.kinds, len(plain), plain["put", "put", "="], plain["put", "out", "="]],
             [("put", "out"), 7, ("first:keep", "up"), ("keep",)],
@@ -25,13 +31,47 @@ class Examples(unittest.TestCase):
             [("put", 2, "x"), ("put", 3, "x"), ("stay",), ("put", 4, "x")],
         )
 
-    def test_other_tables_of_the_document(self):
-        rows = ("out out > down", "out out = stay", "set out > down", "set out = stay", "set set = first:keep stay")
-        self.assertEqual(Table(("out", "set"), rows).rows, rows)
-        self.assertEqual(Table(("put",)).rows, ())
+    def test_runs(self):
+        plain = self.plain()
+        self.assertEqual(
+            [done("abc", ("put", 1, "x")), done("abc", ("out", 2)), done("abc", ("set", 0, "z")), done("", ("stay",))],
+            ["axbc", "ab", "zbc", ""],
+        )
+        three = (("put", 1, "x"), ("out", 0), ("put", 0, "y"))
+        self.assertEqual(
+            [
+                ended(plain, "b", three, (0, 1, 2)),
+                ended(plain, "b", three, (1, 2, 0)),
+                ended(plain, "abc", (("put", 3, "x"), ("out", 1)), (1, 0)),
+            ],
+            ["yx", "xy", "acx"],
+        )
+
+    def test_meeting(self):
+        plain = self.plain()
+        lone = Table(
+            ("out", "set"),
+            ("out out > down", "out out = stay", "set out > down", "set out = stay", "set set = first:keep stay"),
+        )
+        self.assertEqual(
+            [meets(plain, 2), meets(plain, 3), sure(plain), meets(lone, 3), sure(lone), len(parted(plain, 3)[0])],
+            [True, False, False, True, True, 1],
+        )
+        self.assertEqual(
+            [
+                keeps(plain, "puts", 2), keeps(plain, "outs", 2), keeps(lone, "kept", 3), keeps(lone, "sets", 2),
+                meets(Table(("put",)), 2),
+            ],
+            [True, True, True, True, False],
+        )
+
+    def test_mends(self):
         bare = Table(("put",), ("put put > up",))
-        for change in ("put put > keep", "put put = first:keep up", "put put < keep"):
-            self.assertIn(change, bare.changed(change).rows)
+        changes = ("put put > keep", "put put = first:keep up", "put put < keep")
+        self.assertEqual(
+            [holds(bare, ("meets", 2)), holds(bare, ("keeps", "puts", 2)), mends(bare, (("meets", 2),), changes)],
+            [False, True, ((1,),)],
+        )
 
 
 if __name__ == "__main__":
