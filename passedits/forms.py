@@ -1,4 +1,4 @@
-"""Which forms the values have that callers pass: kinds, edits, rows and texts of tables, lists, arrivals, wishes."""
+"""Which forms the values have that callers pass: kinds, edits, rows, texts, lists, arrivals, wishes and names."""
 
 from passedits.limits import LEAST_PLACE, MOST_OPTIONS, MOST_PLACE, MOST_SIGNS
 
@@ -8,6 +8,8 @@ RELATIONS = ("<", "=", ">")
 SIGN_CONDITIONS = ("less", "same", "more")
 RESULTS = ("keep", "up", "down", "stay")
 PROMISES = ("puts", "outs", "kept", "sets")
+DIGITS = "0123456789"
+LONGEST_NAME = 8
 
 
 def is_integer(value):
@@ -154,3 +156,19 @@ def is_wish(value):
     if is_word(value[0], ("keeps",)):
         return len(value) == 3 and is_promise(value[1]) and is_many(value[2])
     return is_word(value[0], ("sure",)) and len(value) == 1
+
+
+def is_name(value):
+    """Whether the value is a name."""
+    if not isinstance(value, str) or len(value) == 0 or len(value) > LONGEST_NAME:
+        return False
+    return is_sign(value[0]) and all([is_sign(sign) or sign in DIGITS for sign in value])
+
+
+def is_wish_for_book(value):
+    """Whether the value is a wish for a book."""
+    if not isinstance(value, tuple):
+        return False
+    if len(value) == 2:
+        return is_name(value[0]) and is_wish(value[1])
+    return len(value) == 3 and is_word(value[0], ("alike",)) and is_name(value[1]) and is_name(value[2])

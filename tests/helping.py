@@ -1,4 +1,4 @@
-"""What several tests share: odd values, all cells, and a way to ask for an error."""
+"""What several tests share: odd and stubborn values, all cells, and a way to ask for an error."""
 
 import itertools
 import unittest
@@ -66,6 +66,33 @@ def odd_values():
         nested(9), object(), object, int, tuple, len, Table, Table(("put",)), Table(("put", "out", "set")),
         (Table(("put",)),), InvalidText, InvalidText("put"), ValueError("put"), lambda: "put",
     ]
+
+
+class Everything:
+    """Says that it equals all values, and has no hash."""
+
+    __hash__ = None
+
+    def __eq__(self, other):
+        return True
+
+    def __ne__(self, other):
+        return False
+
+
+class Nothing:
+    """Can be asked for nothing at all."""
+
+    def fail(self, *values):
+        raise RuntimeError("asked")
+
+    __eq__ = __ne__ = __lt__ = __le__ = __gt__ = __ge__ = __hash__ = __bool__ = __len__ = fail
+    __iter__ = __getitem__ = __contains__ = __call__ = __int__ = __index__ = __str__ = __repr__ = fail
+
+
+def stubborn_values():
+    """Values that say of themselves what is not so, or nothing."""
+    return [Everything(), Nothing()]
 
 
 class RefusingCase(unittest.TestCase):
